@@ -44,6 +44,21 @@ func Take[T any](c *Cursor, layer func(l []lexeme.Token, at, depth int) (T, int,
 	return part
 }
 
+// List reads parts in parentheses, with a comma between two of them.
+func List[T any](c *Cursor, part func() T) []T {
+	var list []T
+	c.Pass("(")
+	if c.Sign() != ")" {
+		list = append(list, part())
+		for c.Sign() == "," {
+			c.At++
+			list = append(list, part())
+		}
+	}
+	c.Pass(")")
+	return list
+}
+
 // Fail ends all that Read began with an error, and the index of the token that is wrong.
 func (c *Cursor) Fail(at int, err api.Errno) { panic(mistake{at, err}) }
 
@@ -61,6 +76,9 @@ func (c *Cursor) Token(n int) lexeme.Token {
 	}
 	return c.tokens[c.At+n]
 }
+
+// More reports whether there is a next token.
+func (c *Cursor) More() bool { return c.At < len(c.tokens) }
 
 // Text returns the text of the next token if it is of this kind; otherwise an empty string, which is no token's text.
 func (c *Cursor) Text(kind int) string {

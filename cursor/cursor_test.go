@@ -2,6 +2,7 @@ package cursor_test
 
 import (
 	"math"
+	"slices"
 	"testing"
 
 	"rewind/api"
@@ -104,4 +105,51 @@ func TestTake(t *testing.T) {
 	look(t, 1, func(c *cursor.Cursor) string { return cursor.Take(c, layer, 5) }, "taken", 3, api.OK)
 	wrong := func([]lexeme.Token, int, int) (string, int, api.Errno) { return "wrong", 2, api.ErrDeep }
 	look(t, 1, func(c *cursor.Cursor) string { return cursor.Take(c, wrong, 5) }, "", 2, api.ErrDeep)
+}
+
+// There is more up to the last token, of whatever kind this is.
+func TestMore(t *testing.T) {
+	for at := range 5 {
+		look(t, at, func(c *cursor.Cursor) string {
+			if c.More() {
+				return "more"
+			}
+			return "none"
+		}, []string{"more", "more", "more", "more", "none"}[at], at, api.OK)
+	}
+}
+
+// List reads parts in parentheses, with commas between them, and goes behind the closing one.
+func TestList(t *testing.T) {
+	names := func(c *cursor.Cursor) []string { return cursor.List(c, c.Name) }
+	for _, x := range []struct {
+		text string
+		want []string
+		end  int
+		err  api.Errno
+	}{
+		{"()", nil, 2, api.OK},
+		{"() a", nil, 2, api.OK},
+		{"(a)", []string{"a"}, 3, api.OK},
+		{"(a, b), c", []string{"a", "b"}, 5, api.OK},
+		{"(a, a, b, a))", []string{"a", "a", "b", "a"}, 9, api.OK},
+		{"", nil, 0, api.ErrForm},
+		{"a", nil, 0, api.ErrForm},
+		{")", nil, 0, api.ErrForm},
+		{"(", nil, 1, api.ErrForm},
+		{"(,", nil, 1, api.ErrForm},
+		{"(a", nil, 2, api.ErrForm},
+		{"(a b)", nil, 2, api.ErrForm},
+		{"(a; b)", nil, 2, api.ErrForm},
+		{"(a,", nil, 3, api.ErrForm},
+		{"(a,)", nil, 3, api.ErrForm},
+		{"(a,,b)", nil, 3, api.ErrForm},
+		{"(a, b", nil, 4, api.ErrForm},
+		{"(a, b(", nil, 4, api.ErrForm},
+	} {
+		l, _, _ := lexeme.Scan(x.text)
+		if got, end, e := cursor.Read(l, 0, names); !slices.Equal(got, x.want) || end != x.end || e != x.err {
+			t.Errorf("%s: %v, %d, %d; want %v, %d, %d", x.text, got, end, e, x.want, x.end, x.err)
+		}
+	}
 }

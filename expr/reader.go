@@ -43,19 +43,7 @@ func (r *reader) whole(e api.Expr) api.Expr {
 }
 
 // list reads expressions in parentheses.
-func (r *reader) list() []api.Expr {
-	var list []api.Expr
-	r.Pass("(")
-	if r.Sign() != ")" {
-		list = append(list, r.expression())
-		for r.Sign() == "," {
-			r.At++
-			list = append(list, r.expression())
-		}
-	}
-	r.Pass(")")
-	return list
-}
+func (r *reader) list() []api.Expr { return cursor.List(r.Cursor, r.expression) }
 
 // expression reads an expression.
 func (r *reader) expression() api.Expr { return r.climb(1) }
