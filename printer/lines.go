@@ -30,10 +30,10 @@ type printer struct {
 	depth int // how many tabs stand ahead of the next line
 }
 
-// each calls print for all elements of a list.
-func each[T any](list []T, print func(T)) {
+// each calls do for all elements of a list.
+func each[T any](list []T, do func(T)) {
 	for _, x := range list {
-		print(x)
+		do(x)
 	}
 }
 
